@@ -1,0 +1,1 @@
+"""Surelabels: machine-read labels, and what the wear of all of them can cost."""

@@ -1,0 +1,60 @@
+"""Tests of the interface: names, arguments and where each one is defined."""
+
+import importlib
+import inspect
+import unittest
+
+FUNCTIONS = {
+    "cells": ["is_row(thing)", "apart(one, other)", "turned(row)", "cell_number(row)", "row_with(number, width)",
+              "blocks(row, width)"],
+    "books": ["label(book, text)", "text_of(book, row)", "least_apart(book)", "nearest(book, row)", "both_ways(book)",
+              "turned_book(book)"],
+}
+
+# For each class its arguments, its methods, and its fields with what makes an object.
+CLASSES = {
+    "books": {"Book": ("(patterns, start, stop)", ["pattern(mark)", "all_marks()"],
+                       ["patterns", "start", "stop", "signs", "width"],
+                       ({"a": (0, 0)}, (0, 1), (1, 0)))},
+}
+
+
+def arguments(call):
+    """Return the arguments of a function as the interface writes them."""
+    parts = []
+    for name, part in inspect.signature(call).parameters.items():
+        if part.kind is not part.POSITIONAL_OR_KEYWORD:
+            raise AssertionError(f"{name} cannot be passed by position and by name")
+        parts.append(name if part.default is part.empty else f"{name}={part.default}")
+    return f"({', '.join(parts)})"
+
+
+class TestInterface(unittest.TestCase):
+
+    def test_functions(self):
+        for file, wanted in FUNCTIONS.items():
+            module = importlib.import_module("surelabels." + file)
+            for line in wanted:
+                with self.subTest(file, line=line):
+                    call = getattr(module, line.split("(")[0])
+                    self.assertTrue(inspect.isfunction(call))
+                    self.assertEqual(call.__module__, module.__name__)
+                    self.assertEqual(call.__name__ + arguments(call), line)
+
+    def test_classes(self):
+        for file, wanted in CLASSES.items():
+            module = importlib.import_module("surelabels." + file)
+            for name, (made, methods, fields, passed) in wanted.items():
+                with self.subTest(file, name=name):
+                    kind = getattr(module, name)
+                    self.assertTrue(inspect.isclass(kind))
+                    self.assertEqual(kind.__module__, module.__name__)
+                    self.assertEqual(arguments(kind), made)
+                    thing = kind(*passed)
+                    for line in methods:
+                        self.assertIn(line.split("(")[0], vars(kind))
+                        call = getattr(thing, line.split("(")[0])
+                        self.assertEqual(call.__name__ + arguments(call), line)
+                    self.assertIn("__eq__", vars(kind))
+                    for field in fields:
+                        self.assertTrue(hasattr(thing, field), field)
