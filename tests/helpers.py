@@ -5,6 +5,8 @@ import unittest
 
 from surelabels import errors
 from surelabels.books import Book
+from surelabels.rules import Rule
+from surelabels.wears import Wear
 
 # The attributes of each error class, as the interface lists them.
 ATTRIBUTES = {
@@ -37,7 +39,8 @@ def things():
     odd = [range(3), range(0), slice(1, 2), len, int, str, object, object(), Ellipsis, NotImplemented, iter([]),
            iter("a"), (x for x in ()), lambda: None, itertools, zip(), enumerate([]), map(len, []), {}.keys(),
            {1: 2}.items(), {}.values(), ValueError("a"), property(), "".join]
-    own = [Book({"a": (0, 1)}, (1, 1), (1, 0)), Book, errors.BadRow("row"), errors.LabelError, errors.NoText()]
+    own = [Book({"a": (0, 1)}, (1, 1), (1, 0)), Book, Rule(("a",), ((0,),), (0,)),
+           Rule, Wear([[(0, 0, 0, 0), (1, 1, 0, 0)]]), Wear, errors.BadRow("row"), errors.LabelError, errors.NoText()]
     return deep + plain + held + odd + own
 
 

@@ -3,6 +3,9 @@
 import doctest
 import unittest
 
+from surelabels.rules import Rule
+from surelabels.slips import overlooked
+
 BOOKS = '''
 >>> from surelabels.books import Book, label, least_apart, text_of
 >>> book = Book({"a": (0, 1, 1), "b": (1, 0, 1)}, (1, 1, 1), (0, 0, 1))
@@ -10,6 +13,24 @@ BOOKS = '''
 (1, 1, 1, 0, 1, 1, 1, 0, 1, 0, 0, 1)
 >>> [text_of(book, (1, 1, 1, 0, 0, 1)), text_of(book, (1, 1, 1)), least_apart(book)]
 ['', None, (1, 'a', 'start')]
+'''
+
+RULES = '''
+>>> from surelabels.rules import Rule
+>>> from surelabels.slips import overlooked, seen_kinds
+>>> even = Rule(("a", "b"), ((1, 0), (0, 1)), (0,))
+>>> [even.lets("aab"), overlooked(even, "one"), overlooked(even, "swap"), seen_kinds(even)]
+[True, None, ('aab', 'aba'), ('one',)]
+'''
+
+WEARS = '''
+>>> from surelabels.wears import flips, price_of, strokes, worn_rows
+>>> price_of(flips(1, 2), (0, 1, 1), (1, 1, 0))
+3
+>>> [price_of(strokes(5, 2), (0, 0, 0, 0), (1, 1, 0, 1)), price_of(strokes(5, 2), (1, 0), (0, 0))]
+[10, None]
+>>> worn_rows(flips(1, 2), (0, 1), 2)
+[((0, 1), 0), ((1, 1), 1), ((0, 0), 2)]
 '''
 
 
@@ -25,3 +46,14 @@ class TestExamples(unittest.TestCase):
 
     def test_books(self):
         self.told(BOOKS)
+
+    def test_rules(self):
+        self.told(RULES)
+
+    def test_wears(self):
+        self.told(WEARS)
+
+    def test_remark_behind_the_rules(self):
+        even = Rule(("a", "b"), ((1, 0), (0, 1)), (0,))
+        self.assertEqual([overlooked(even, kind) for kind in ("twin", "lost", "jump")],
+                         [("aa", "bb"), ("b", ""), ("aab", "baa")])

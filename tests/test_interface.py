@@ -9,6 +9,12 @@ FUNCTIONS = {
               "blocks(row, width)"],
     "books": ["label(book, text)", "text_of(book, row)", "least_apart(book)", "nearest(book, row)", "both_ways(book)",
               "turned_book(book)"],
+    "rules": ["all_texts(signs)", "sums(signs, values, weights, modulus, rest=0)", "lengths(signs, low, high)"],
+    "ruleforms": ["both(one, other)", "either(one, other)", "opposite(rule)", "least_rule(rule)",
+                  "unlike_text(one, other)", "many_let(rule, length)", "texts_let(rule, most)", "least_let(rule)"],
+    "slips": ["slipped(text, kind, signs)", "overlooked(rule, kind)", "seen_kinds(rule)", "origins(rule, text, kind)"],
+    "wears": ["price_of(wear, row, worn)", "worn_rows(wear, row, most)", "is_plain(wear)", "flips(dark, light)",
+              "strokes(price, length)", "rare(dark, light, pause)", "worn_twice(one, other)"],
 }
 
 # For each class its arguments, its methods, and its fields with what makes an object.
@@ -16,6 +22,9 @@ CLASSES = {
     "books": {"Book": ("(patterns, start, stop)", ["pattern(mark)", "all_marks()"],
                        ["patterns", "start", "stop", "signs", "width"],
                        ({"a": (0, 0)}, (0, 1), (1, 0)))},
+    "rules": {"Rule": ("(signs, moves, good)", ["last(text)", "lets(text)", "move(state, sign)"],
+                       ["signs", "moves", "good"], (("a",), ((0,),), (0,)))},
+    "wears": {"Wear": ("(moves)", [], ["moves"], ((((0, 0, 0, 0), (1, 1, 0, 0)),),))},
 }
 
 
