@@ -122,7 +122,7 @@ def _distances(rule, led):
 def _least_text(rule, changes, size, far, starts):
     """Return the least text that leads from one of some nodes to an end."""
     left = min([far[node] for node in starts])
-    here = [node for node in starts if far[node] == left]
+    here = starts
     text = ""
     while left > 0:
         left -= 1

@@ -19,22 +19,34 @@ def _may_stay(moves, cell):
     return any([move[0] == cell and move[1] == cell and move[2] == 0 for move in moves])
 
 
-def _moves_of(thing):
-    """Return the moves of a wear as tuples, or raise BadWear."""
+def _places_of(thing):
+    """Return a tuple of 1 to 6 tuples as a list of tuples, or raise BadWear."""
     places = items_of(thing)
     if places is None or not 1 <= len(places) <= 6:
         raise BadWear(-1, -1)
-    kept = [items_of(moves) for moves in places]
-    if not all([moves is not None for moves in kept]):
-        raise BadWear(-1, -1)
-    for state, moves in enumerate(kept):
-        for index, move in enumerate(moves):
-            if not _is_move(move, len(kept)):
+    kept = [items_of(place) for place in places]
+    for place in kept:
+        if place is None:
+            raise BadWear(-1, -1)
+    return kept
+
+
+def _check_moves(places):
+    """Raise BadWear for the first wrong move of all, then for the first standing place where a cell cannot stay."""
+    for state, things in enumerate(places):
+        for index, thing in enumerate(things):
+            if not _is_move(thing, len(places)):
                 raise BadWear(state, index)
-    for state, moves in enumerate(kept):
+    for state, moves in enumerate(places):
         if not _may_stay(moves, 0) or not _may_stay(moves, 1):
             raise BadWear(state, -1)
-    return tuple([tuple([tuple(move) for move in moves]) for moves in kept])
+
+
+def _moves_of(thing):
+    """Return the moves of a wear as tuples, or raise BadWear."""
+    places = _places_of(thing)
+    _check_moves(places)
+    return tuple([tuple([tuple(move) for move in moves]) for moves in places])
 
 
 def _ways_of(moves):
@@ -92,22 +104,30 @@ def _least_of(front):
     return min([price for _, price in front])
 
 
+def _worn_longer(wear, found, cell, most):
+    """Return the worn rows by their fronts behind one more cell.
+
+    The worn rows so far are the lists of the dict found, whose keys are their fronts.
+    """
+    longer = {}
+    for front in found:
+        for made in (0, 1):
+            behind = _fair_front(wear.worn_on(dict(front), cell, made), most)
+            if behind:
+                longer[behind] = longer.get(behind, []) + [worn + (made,) for worn in found[front]]
+    return longer
+
+
 def worn_rows(wear, row, most):
     """List the pairs (worn, price) of all worn rows of a price of at most `most`, the cheapest first."""
     check_row(row, "row")
     check_from(most, 0, "most")
     found = {((0, 0),): [()]}
     for cell in row:
-        longer = {}
-        for front in found:
-            for made in (0, 1):
-                behind = _fair_front(wear.worn_on(dict(front), cell, made), most)
-                if behind:
-                    longer.setdefault(behind, []).extend([worn + (made,) for worn in found[front]])
+        found = _worn_longer(wear, found, cell, most)
         # Each beginning that is kept can go on without a price, so it becomes at least one worn row.
-        if sum([len(rows) for rows in longer.values()]) > 1000:
+        if sum([len(rows) for rows in found.values()]) > 1000:
             raise TooMany(1000)
-        found = longer
     pairs = [(_least_of(front), worn) for front in found for worn in found[front]]
     return [(worn, price) for price, worn in sorted(pairs)]
 

@@ -31,7 +31,8 @@ def things():
     deep = [nested(0, 30, lambda x: [x]), nested(1, 30, lambda x: (x,)), nested("a", 30, lambda x: {"a": x}),
             nested(None, 15, lambda x: ([x], "a"))]
     plain = [None, True, False, 0, 1, 2, -1, 7, 10 ** 39, -10 ** 39, "", "a", "b", "ab", "A", "0", "start", "stop",
-             "one", "-", " ", "\n", "\u00e9", "\u00b2", "\u0663", "\ud800", b"", b"a", b"start", bytearray(b"a"), memoryview(b"a")]
+             "one", "-", " ", "\n", "\u00e9", "\u00b2", "\u0663", "\ud800", b"", b"a",
+             b"start", bytearray(b"a"), memoryview(b"a")]
     held = [(), [], {}, (0,), (1,), [0], [1], (0, 1), [0, 1], (0, 1, 0), (True,), (False, True), (0, True), (2,),
             (0, 2), (-1,), (None,), ("0",), ("a",), ["a"], ("b", "a"), ("a", "a"), ((),), [[]], ((0,),), ((0, 0),),
             [[0, 0], [1, 1]], (((0, 0, 0, 0),),), {"a": (0, 1)}, {"a": [0, 1]}, {0: (0,)}, {None: None}, {(): ()},
@@ -85,7 +86,8 @@ class Case(unittest.TestCase):
         self.assertIs(type(got), type(wanted), f"{got!r}, wanted {wanted!r}, for {args!r} {named!r}")
         for name in ATTRIBUTES[type(wanted).__name__]:
             value, due = getattr(got, name), getattr(wanted, name)
-            self.assertTrue(value is due or same(value, due), f"{name} is {value!r}, not {due!r}, for {args!r} {named!r}")
+            self.assertTrue(value is due or same(value, due),
+                            f"{name} is {value!r}, not {due!r}, for {args!r} {named!r}")
 
     def equal(self, got, wanted):
         """Check that two values are equal and of the same kinds to the bottom."""

@@ -11,7 +11,8 @@ def not_rows():
     """Return the things that are no rows: of those tuples whose cells are just the integers 0 and 1."""
     kept = [thing for thing in things()
             if not (type(thing) is tuple and all(type(cell) is int and cell in (0, 1) for cell in thing))]
-    return kept + [[0, 1], [], (0, 1, 2), (0, True), (False,), (0, "1"), ((0,),), (0, None), "01", b"\x00\x01", range(2)]
+    return kept + [[0, 1], [], (0, 1, 2), (0, True), (False,), (0, "1"), ((0,),), (0, None),
+                   "01", b"\x00\x01", range(2)]
 
 
 class TestRows(Case):

@@ -12,15 +12,15 @@ ROOT = os.path.dirname(os.path.dirname(os.path.abspath(__file__)))
 FOLDER = os.path.join(ROOT, "surelabels")
 
 BUILTINS = set(
-    "len range enumerate zip min max sum abs sorted reversed int str bool bytes list tuple dict set frozenset isinstance "
-    "ord repr any all divmod map iter next Exception ValueError TypeError KeyError IndexError LookupError "
+    "len range enumerate zip min max sum abs sorted reversed int str bool bytes list tuple dict set frozenset "
+    "isinstance ord repr any all divmod map iter next Exception ValueError TypeError KeyError IndexError LookupError "
     "ZeroDivisionError ArithmeticError OverflowError RuntimeError NotImplementedError AttributeError StopIteration "
     "NotImplemented print property staticmethod classmethod super".split())
 
 METHODS = set(
-    "append clear copy count endswith extend find get index insert isalnum isalpha isdigit islower isspace isupper items "
-    "join keys ljust lower lstrip partition pop remove replace reverse rfind rjust rpartition rsplit rstrip setdefault "
-    "split splitlines startswith strip update upper values zfill bit_length add discard encode decode hex translate "
+    "append clear copy count endswith extend find get index insert isalnum isalpha isdigit islower isspace isupper "
+    "items join keys ljust lower lstrip partition pop remove replace reverse rfind rjust rpartition rsplit rstrip "
+    "setdefault split splitlines startswith strip update upper values zfill bit_length add discard encode decode hex translate "
     "title capitalize swapcase casefold center expandtabs removeprefix removesuffix rindex isascii isdecimal isnumeric "
     "istitle isidentifier isprintable setter".split())
 
@@ -79,8 +79,7 @@ class TestLanguage(unittest.TestCase):
             self.assertLessEqual(node.end_lineno - node.lineno + 1, 40, f"{name}: {node.name}")
 
     def test_no_barred_statement_or_operator(self):
-        self.assertEqual([(name, node.lineno) for name, node in self.nodes(*BARRED_NODES) if hasattr(node, "lineno")], [])
-        self.assertEqual([name for name, _ in self.nodes(ast.Div)], [])
+        self.assertEqual([(name, ast.dump(node)) for name, node in self.nodes(*BARRED_NODES)], [])
 
     def test_imports(self):
         for name, node in self.nodes(ast.ImportFrom):
@@ -120,7 +119,8 @@ class TestLanguage(unittest.TestCase):
         for name, tree in self.trees.items():
             taken = {alias.name for node in tree.body if isinstance(node, ast.ImportFrom) for alias in node.names}
             taken |= {node.name for node in tree.body if isinstance(node, ast.ClassDef)}
-            local = {node.id for node in ast.walk(tree) if isinstance(node, ast.Name) and isinstance(node.ctx, ast.Store)}
+            local = {node.id for node in ast.walk(tree)
+                     if isinstance(node, ast.Name) and isinstance(node.ctx, ast.Store)}
             local |= {node.arg for node in ast.walk(tree) if isinstance(node, ast.arg)}
             self.assertEqual(taken & local, set(), name)
 

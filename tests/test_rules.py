@@ -187,8 +187,9 @@ def sums_as_told(signs, values, weights, modulus, rest):
 class TestSums(Case):
 
     CASES = [("ab", (0, 1), (1,), 2, 0), ("ab", (0, 1), (1,), 2, 1), ("abc", (0, 1, 2), (1, 3), 9, 4),
-             ("abc", (-5, 7, -11), (2, -3, 1), 7, 3), ("z", (1,), (1, 2, 3, 4), 5, 0), ("ab", (3, 3), (1, 1, 1, 1), 9, 8),
-             ("ab", (10 ** 39, -(10 ** 39) - 7), (10 ** 39 + 1, -3), 8, 5), ("0123456789", tuple(range(10)), (1, 3), 9, 0),
+             ("abc", (-5, 7, -11), (2, -3, 1), 7, 3), ("z", (1,), (1, 2, 3, 4), 5, 0),
+             ("ab", (3, 3), (1, 1, 1, 1), 9, 8), ("ab", (10 ** 39, -(10 ** 39) - 7), (10 ** 39 + 1, -3), 8, 5),
+             ("0123456789", tuple(range(10)), (1, 3), 9, 0),
              ("ab", (0, 0), (0,), 2, 0)]
 
     def test_states_as_told(self):
@@ -259,7 +260,8 @@ class TestLengths(Case):
 
     def test_rule(self):
         rule = lengths(("a", "b"), 1, 3)
-        self.equal((rule.signs, rule.moves, rule.good), (("a", "b"), ((1, 1), (2, 2), (3, 3), (4, 4), (4, 4)), (1, 2, 3)))
+        self.equal((rule.signs, rule.moves, rule.good),
+                   (("a", "b"), ((1, 1), (2, 2), (3, 3), (4, 4), (4, 4)), (1, 2, 3)))
         self.assertTrue(lengths(high=3, low=1, signs=["a", "b"]) == rule)
 
     def test_all_bounds(self):

@@ -167,8 +167,8 @@ class TestOverlooked(Case):
         self.equal(overlooked(sums(signs, tuple(range(7)), (1, 1), 7), "swap"), ("16", "61"))
 
     def test_rings_of_one_sign(self):
-        for tail, size, good in [(0, 40, [0, 39]), (0, 40, [0, 38]), (3, 30, [2, 32]), (5, 35, [7, 20, 21]), (38, 2, [38]),
-                                 (0, 1, [0]), (0, 5, []), (30, 10, [29, 30])]:
+        for tail, size, good in [(0, 40, [0, 39]), (0, 40, [0, 38]), (3, 30, [2, 32]), (5, 35, [7, 20, 21]),
+                                 (38, 2, [38]), (0, 1, [0]), (0, 5, []), (30, 10, [29, 30])]:
             rule = ring(tail, size, good)
             let = [rule.lets("a" * many) for many in range(90)]
             lost = [many for many in range(1, 90) if let[many] and let[many - 1]]
@@ -177,6 +177,14 @@ class TestOverlooked(Case):
             self.equal(overlooked(rule, "more"), ("a" * more[0], "a" * (more[0] + 1)) if more else None)
             for kind in ("one", "swap", "jump", "twin"):
                 self.equal(overlooked(rule, kind), None)
+
+    def test_long_texts(self):
+        for kind, one, other in [("one", "a", "b"), ("one", "ba", "bb"), ("swap", "ab", "ba"), ("jump", "aab", "baa"),
+                                 ("twin", "aa", "bb"), ("lost", "ab", "b"), ("more", "b", "ab")]:
+            # Both are let only where the number of further a is one less than a multiple of 15 and of 16.
+            further = "a" * (15 * 16 - 1)
+            self.equal(overlooked(two_rings(one, other, 15, 16), kind), (one + further, other + further))
+            self.equal(overlooked(two_rings(one, other, 10, 16, 1), kind), None)
 
     def test_slip_at_the_ends_of_the_text(self):
         # Only these two texts are let: the slip stands at the first or at the last sign.
@@ -230,6 +238,21 @@ def words(signs, let):
     dead = len(starts)
     moves = [[starts.index(text + sign) if text + sign in starts else dead for sign in signs] for text in starts]
     return Rule(tuple(signs), moves + [[dead] * len(signs)], sorted(starts.index(text) for text in let))
+
+
+def two_rings(one, other, size, also, more=0):
+    """Return the rule that lets a beginning and further a, one less than a multiple of a size, another for each one.
+
+    more is how many further a the other beginning's texts have beyond that.
+    """
+    starts = sorted({text[:k] for text in (one, other) for k in range(len(text))}, key=lambda text: (len(text), text))
+    first, second = len(starts), len(starts) + size
+    dead = second + also
+    places = {**{text: k for k, text in enumerate(starts)}, one: first, other: second}
+    moves = [[places.get(text + sign, dead) for sign in "ab"] for text in starts]
+    moves += [[first + (k + 1) % size, dead] for k in range(size)]
+    moves += [[second + (k + 1) % also, dead] for k in range(also)]
+    return Rule(("a", "b"), moves + [[dead, dead]], sorted([first + size - 1, second + (also - 1 + more) % also]))
 
 
 class TestSeenKinds(Case):

@@ -92,7 +92,8 @@ class TestWear(Case):
 
     def test_wrong_moves(self):
         for thing in things() + [(0, 0, 0), (0, 0, 0, 0, 0), (2, 0, 0, 0), (0, 2, 0, 0), (0, 0, -1, 0), (0, 0, 0, 2),
-                                 (0, 0, 0, -1), (-1, 0, 0, 0), (0, -1, 0, 0), "0000", {0: 0, 1: 1, 2: 2, 3: 3}, range(4)]:
+                                 (0, 0, 0, -1), (-1, 0, 0, 0), (0, -1, 0, 0), "0000", range(4),
+                                 {0: 0, 1: 1, 2: 2, 3: 3}]:
             if not is_move(thing, 2):
                 self.raises(BadWear(0, 0), Wear, ((thing,), STAY))
                 self.raises(BadWear(1, 2), Wear, (STAY, (*STAY, thing, thing)))
@@ -313,6 +314,7 @@ class TestMakers(Case):
             places += [((0, 0, 0, k - 1), (1, 1, 0, k - 1)) for k in range(1, pause + 1)]
             self.equal(rare(3, 4, pause).moves, tuple(places))
             self.equal(rare(pause=pause, light=4, dark=3).moves, tuple(places))
+        self.equal(rare(0, 0, 1).moves[0], ((0, 0, 0, 0), (0, 1, 0, 1), (1, 1, 0, 0), (1, 0, 0, 1)))
 
     def test_price_of_rare(self):
         for pause in range(1, 6):
