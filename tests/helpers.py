@@ -5,8 +5,10 @@ import unittest
 
 from surelabels import errors
 from surelabels.books import Book
+from surelabels.readers import Reader
 from surelabels.rules import Rule
 from surelabels.wears import Wear
+from surelabels.windows import Window
 
 # The attributes of each error class, as the interface lists them.
 ATTRIBUTES = {
@@ -41,7 +43,8 @@ def things():
            iter("a"), (x for x in ()), lambda: None, itertools, zip(), enumerate([]), map(len, []), {}.keys(),
            {1: 2}.items(), {}.values(), ValueError("a"), property(), "".join]
     own = [Book({"a": (0, 1)}, (1, 1), (1, 0)), Book, Rule(("a",), ((0,),), (0,)),
-           Rule, Wear([[(0, 0, 0, 0), (1, 1, 0, 0)]]), Wear, errors.BadRow("row"), errors.LabelError, errors.NoText()]
+           Rule, Wear([[(0, 0, 0, 0), (1, 1, 0, 0)]]), Wear, Window(0, (0, 1)), Window, Reader(2, {(0, 1): "a"}),
+           Reader, errors.BadRow("row"), errors.LabelError, errors.NoText()]
     return deep + plain + held + odd + own
 
 

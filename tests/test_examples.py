@@ -33,6 +33,15 @@ WEARS = '''
 [((0, 1), 0), ((1, 1), 1), ((0, 0), 2)]
 '''
 
+WINDOWS = '''
+>>> from surelabels.windowforms import unlike_row
+>>> from surelabels.windows import middle, swept
+>>> swept(middle(1), (1, 0, 1, 1, 0))
+(0, 1, 1, 1, 0)
+>>> [middle(1).table, unlike_row(middle(1), middle(0))]
+[(0, 0, 0, 1, 0, 1, 1, 1), (1,)]
+'''
+
 
 class TestExamples(unittest.TestCase):
 
@@ -52,6 +61,9 @@ class TestExamples(unittest.TestCase):
 
     def test_wears(self):
         self.told(WEARS)
+
+    def test_windows(self):
+        self.told(WINDOWS)
 
     def test_remark_behind_the_rules(self):
         even = Rule(("a", "b"), ((1, 0), (0, 1)), (0,))

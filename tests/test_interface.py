@@ -15,6 +15,12 @@ FUNCTIONS = {
     "slips": ["slipped(text, kind, signs)", "overlooked(rule, kind)", "seen_kinds(rule)", "origins(rule, text, kind)"],
     "wears": ["price_of(wear, row, worn)", "worn_rows(wear, row, most)", "is_plain(wear)", "flips(dark, light)",
               "strokes(price, length)", "rare(dark, light, pause)", "worn_twice(one, other)"],
+    "windows": ["swept(window, row)", "same()", "darkest(radius)", "lightest(radius)", "middle(radius)",
+                "behind(one, other)"],
+    "windowforms": ["least_window(window)", "unlike_row(one, other)", "never_lightens(window)",
+                    "never_darkens(window)", "rises(window)", "rests(window, row)", "many_rest(window, length)",
+                    "swept_till(window, row, most)"],
+    "readers": ["strict(book)", "near(book, most)", "read(reader, row)"],
 }
 
 # For each class its arguments, its methods, and its fields with what makes an object.
@@ -25,6 +31,8 @@ CLASSES = {
     "rules": {"Rule": ("(signs, moves, good)", ["last(text)", "lets(text)", "move(state, sign)"],
                        ["signs", "moves", "good"], (("a",), ((0,),), (0,)))},
     "wears": {"Wear": ("(moves)", [], ["moves"], ((((0, 0, 0, 0), (1, 1, 0, 0)),),))},
+    "windows": {"Window": ("(radius, table)", [], ["radius", "table"], (0, (0, 1)))},
+    "readers": {"Reader": ("(width, marks)", ["mark(row)"], ["width", "marks"], (1, {(0,): "a"}))},
 }
 
 
