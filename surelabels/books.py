@@ -1,6 +1,6 @@
 """Books of patterns, and the labels of texts (document, point 2)."""
 
-from surelabels.cells import apart, blocks, check_row, is_row, turned
+from surelabels.cells import apart, blocks, check_row, is_row, is_row_of, turned
 from surelabels.common import check_text, is_sign
 from surelabels.errors import BadBook, BadRow, NoSign
 
@@ -23,9 +23,9 @@ def _check_book(patterns, start, stop):
         raise BadBook("patterns")
     rows = list(patterns.values())
     width = len(rows[0])
-    if not is_row(start) or len(start) != width:
+    if not is_row_of(start, width):
         raise BadBook("start")
-    if not is_row(stop) or len(stop) != width:
+    if not is_row_of(stop, width):
         raise BadBook("stop")
     if len(set(rows + [start, stop])) != len(rows) + 2:
         raise BadBook("same")
@@ -105,7 +105,7 @@ def least_apart(book):
 
 def nearest(book, row):
     """Return the list of the marks whose patterns differ from a row at the fewest places."""
-    if not is_row(row) or len(row) != book.width:
+    if not is_row_of(row, book.width):
         raise BadRow("row")
     marks = book.all_marks()
     numbers = [apart(book.pattern(mark), row) for mark in marks]

@@ -9,6 +9,11 @@ def is_row(thing):
     return isinstance(thing, tuple) and all([is_within(cell, 0, 1) for cell in thing])
 
 
+def is_row_of(thing, length):
+    """Tell whether a thing is a row of this length."""
+    return is_row(thing) and len(thing) == length
+
+
 def check_row(thing, part):
     """Raise BadRow for what is no row."""
     if not is_row(thing):

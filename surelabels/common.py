@@ -1,6 +1,8 @@
 """What several files of the package need to judge arguments and to number things."""
 
-from surelabels.errors import BadNumber, BadText
+from heapq import heappop, heappush
+
+from surelabels.errors import BadKind, BadNumber, BadText
 
 SIGNS = "0123456789abcdefghijklmnopqrstuvwxyz"
 
@@ -58,6 +60,12 @@ def check_text(text, signs):
             raise BadText(place)
 
 
+def check_kind(kind, kinds):
+    """Raise BadKind for what is none of these strings."""
+    if not isinstance(kind, str) or kind not in kinds:
+        raise BadKind()
+
+
 def met_from(firsts, after):
     """Return the dict from all that is met from some first things on to what each leads to.
 
@@ -77,3 +85,66 @@ def met_from(firsts, after):
                 known[thing] = True
                 met.append(thing)
     return led
+
+
+class Search:
+    """What a search has met: the least cost of each thing so far, and the thing from which it was met so."""
+
+    def __init__(self, limit):
+        self.costs = {}
+        self.ahead = {}
+        self._limit = limit
+        self._levels = {}
+        self._queue = []
+
+    def lower(self, limit):
+        """Let only things at costs below a lower limit be met from now on."""
+        self._limit = limit
+
+    def meet(self, cost, thing, ahead):
+        """Note a thing that is met at a cost, unless the cost is not below the limit, or it was met for as little."""
+        if self._limit is not None and cost >= self._limit:
+            return
+        if thing in self.costs and self.costs[thing] <= cost:
+            return
+        self.costs[thing] = cost
+        self.ahead[thing] = ahead
+        if cost not in self._levels:
+            self._levels[cost] = []
+            heappush(self._queue, cost)
+        self._levels[cost].append(thing)
+
+    def take(self):
+        """Return the next one of the cheapest things, each once at its least cost; None if there is none left."""
+        while self._queue:
+            cost = self._queue[0]
+            level = self._levels[cost]
+            if level:
+                thing = level.pop()
+                if self.costs[thing] == cost:
+                    return thing
+            else:
+                heappop(self._queue)
+                del self._levels[cost]
+        return None
+
+
+def cheapest_from(firsts, after, goal, limit):
+    """Return the Search of all that is met from some first things, the cheapest first.
+
+    firsts and after(thing) are lists of pairs (cost, thing); costs are integers from 0 on. Only
+    things at costs below the limit are met (None: there is no limit), and none that cost as much
+    as the goal.
+    """
+    search = Search(limit)
+    for cost, thing in firsts:
+        search.meet(cost, thing, None)
+    thing = search.take()
+    while thing is not None and thing != goal:
+        here = search.costs[thing]
+        for cost, then in after(thing):
+            search.meet(here + cost, then, thing)
+            if then == goal and goal in search.costs:
+                search.lower(search.costs[goal])
+        thing = search.take()
+    return search

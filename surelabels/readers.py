@@ -1,7 +1,7 @@
 """Readers that find texts in rows, and their makers (document, point 7)."""
 
 from surelabels.books import nearest
-from surelabels.cells import apart, blocks, is_row, row_with
+from surelabels.cells import apart, blocks, is_row_of, row_with
 from surelabels.common import check_within, is_sign, is_within
 from surelabels.errors import BadReader, BadRow
 
@@ -11,18 +11,13 @@ def _is_mark(thing):
     return is_sign(thing) or isinstance(thing, str) and thing in ("start", "stop")
 
 
-def _is_block(thing, width):
-    """Tell whether a thing is a row of this width."""
-    return is_row(thing) and len(thing) == width
-
-
 def _check_reader(width, marks):
     """Raise BadReader for the first part that is wrong."""
     if not is_within(width, 1, 6):
         raise BadReader("width")
     if not isinstance(marks, dict):
         raise BadReader("marks")
-    if not all([_is_block(row, width) and _is_mark(marks[row]) for row in marks]):
+    if not all([is_row_of(row, width) and _is_mark(marks[row]) for row in marks]):
         raise BadReader("marks")
 
 
@@ -41,7 +36,7 @@ class Reader:
 
     def mark(self, row):
         """Return the mark of a row of the width, None if it has none."""
-        if not _is_block(row, self.width):
+        if not is_row_of(row, self.width):
             raise BadRow("row")
         return self._marks.get(row)
 

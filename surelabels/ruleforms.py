@@ -100,18 +100,20 @@ def many_let(rule, length):
     return sum([numbers[state] for state in rule.good])
 
 
-def _hopeful(rule):
-    """Return, for each state, whether some text leads from it to a good one."""
-    hope = [state in rule.good for state in range(len(rule.moves))]
-    for _ in rule.moves:
-        hope = [hope[state] or any([hope[after] for after in row]) for state, row in enumerate(rule.moves)]
-    return hope
+def signs_left(rule):
+    """Return, for each state, how few signs lead from it to a good one, None if none do."""
+    left = [0 if state in rule.good else None for state in range(len(rule.moves))]
+    for number in range(1, len(rule.moves)):
+        for state, row in enumerate(rule.moves):
+            if left[state] is None and number - 1 in [left[after] for after in row]:
+                left[state] = number
+    return left
 
 
 def _ways(rule):
     """Return, for each state, the signs and the next states from which a good one can be reached."""
-    hope = _hopeful(rule)
-    return [[(sign, after) for sign, after in zip(rule.signs, row) if hope[after]] for row in rule.moves]
+    left = signs_left(rule)
+    return [[(sign, after) for sign, after in zip(rule.signs, row) if left[after] is not None] for row in rule.moves]
 
 
 def _texts_of(ways, ends, length, most):

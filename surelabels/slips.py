@@ -1,7 +1,6 @@
 """Slips of hands, and which of them a rule overlooks (document, point 4)."""
 
-from surelabels.common import check_text, met_from
-from surelabels.errors import BadKind
+from surelabels.common import check_kind, check_text, met_from
 from surelabels.rules import signs_of
 
 KINDS = ("one", "swap", "jump", "twin", "lost", "more")
@@ -11,12 +10,6 @@ _SIZES = {"one": 1, "swap": 2, "jump": 3, "twin": 2, "lost": 1, "more": 0}
 
 # The kind of the slip that takes a slip of each kind back.
 _BACK = {"one": "one", "swap": "swap", "jump": "jump", "twin": "twin", "lost": "more", "more": "lost"}
-
-
-def _check_kind(kind):
-    """Raise BadKind for what is no kind of slip."""
-    if not isinstance(kind, str) or kind not in KINDS:
-        raise BadKind()
 
 
 def _pairs(kind, signs):
@@ -47,7 +40,7 @@ def slipped(text, kind, signs):
     """List, ascending, the texts that one slip of a kind makes of a text."""
     kept = signs_of(signs)
     check_text(text, kept)
-    _check_kind(kind)
+    check_kind(kind, KINDS)
     changes = _changes(kind, kept)
     size = _SIZES[kind]
     places = range(len(text) - size + 1)
@@ -139,7 +132,7 @@ def _least_text(rule, changes, size, far, starts):
 
 def overlooked(rule, kind):
     """Return the least text with an overlooked slip of a kind and the least text behind it, or None."""
-    _check_kind(kind)
+    check_kind(kind, KINDS)
     changes = _changes(kind, rule.signs)
     size = _SIZES[kind]
     starts = _opened(rule, changes, 0)
@@ -160,5 +153,5 @@ def seen_kinds(rule):
 def origins(rule, text, kind):
     """List, ascending, the texts that a rule lets and of which one slip of a kind makes a text."""
     check_text(text, rule.signs)
-    _check_kind(kind)
+    check_kind(kind, KINDS)
     return [made for made in slipped(text, _BACK[kind], rule.signs) if rule.lets(made)]

@@ -5,10 +5,11 @@ import unittest
 
 from surelabels import errors
 from surelabels.books import Book
+from surelabels.chains import Chain
 from surelabels.readers import Reader
 from surelabels.rules import Rule
 from surelabels.wears import Wear
-from surelabels.windows import Window
+from surelabels.windows import Window, same as same_window
 
 # The attributes of each error class, as the interface lists them.
 ATTRIBUTES = {
@@ -42,9 +43,10 @@ def things():
     odd = [range(3), range(0), slice(1, 2), len, int, str, object, object(), Ellipsis, NotImplemented, iter([]),
            iter("a"), (x for x in ()), lambda: None, itertools, zip(), enumerate([]), map(len, []), {}.keys(),
            {1: 2}.items(), {}.values(), ValueError("a"), property(), "".join]
-    own = [Book({"a": (0, 1)}, (1, 1), (1, 0)), Book, Rule(("a",), ((0,),), (0,)),
-           Rule, Wear([[(0, 0, 0, 0), (1, 1, 0, 0)]]), Wear, Window(0, (0, 1)), Window, Reader(2, {(0, 1): "a"}),
-           Reader, errors.BadRow("row"), errors.LabelError, errors.NoText()]
+    parts = [Book({"a": (0, 1)}, (1, 1), (1, 0)), Rule(("a",), ((0,),), (0,)), Wear([[(0, 0, 0, 0), (1, 1, 0, 0)]]),
+             same_window(), Reader(2, {(0, 1): "a"})]
+    own = parts + [Chain(*parts), Book, Rule, Wear, Window, Reader, Chain, errors.BadRow("row"), errors.LabelError,
+                   errors.NoText()]
     return deep + plain + held + odd + own
 
 

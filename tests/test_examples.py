@@ -42,6 +42,23 @@ WINDOWS = '''
 [(0, 0, 0, 1, 0, 1, 1, 1), (1,)]
 '''
 
+PRICES = '''
+>>> from surelabels.books import Book
+>>> from surelabels.chains import Chain, outcome
+>>> from surelabels.prices import least_price, margin
+>>> from surelabels.readers import strict
+>>> from surelabels.rules import Rule
+>>> from surelabels.wears import flips
+>>> from surelabels.windows import same
+>>> book = Book({"a": (0, 1, 1), "b": (1, 0, 1)}, (1, 1, 1), (0, 0, 1))
+>>> even = Rule(("a", "b"), ((1, 0), (0, 1)), (0,))
+>>> chain = Chain(book, even, flips(1, 1), same(), strict(book))
+>>> outcome(chain, "aa", (1, 1, 1, 0, 0, 1, 0, 1, 1, 0, 0, 1))
+'wrong'
+>>> margin(chain)
+(1, 1, 1)
+'''
+
 
 class TestExamples(unittest.TestCase):
 
@@ -64,6 +81,9 @@ class TestExamples(unittest.TestCase):
 
     def test_windows(self):
         self.told(WINDOWS)
+
+    def test_prices(self):
+        self.told(PRICES)
 
     def test_remark_behind_the_rules(self):
         even = Rule(("a", "b"), ((1, 0), (0, 1)), (0,))

@@ -4,6 +4,12 @@ import importlib
 import inspect
 import unittest
 
+from surelabels.books import Book
+from surelabels.readers import Reader
+from surelabels.rules import all_texts
+from surelabels.wears import flips
+from surelabels.windows import same
+
 FUNCTIONS = {
     "cells": ["is_row(thing)", "apart(one, other)", "turned(row)", "cell_number(row)", "row_with(number, width)",
               "blocks(row, width)"],
@@ -21,6 +27,12 @@ FUNCTIONS = {
                     "never_darkens(window)", "rises(window)", "rests(window, row)", "many_rest(window, length)",
                     "swept_till(window, row, most)"],
     "readers": ["strict(book)", "near(book, most)", "read(reader, row)"],
+    "chains": ["seen(chain, worn)", "outcome(chain, text, worn)", "size(chain)", "with_rule(chain, rule)",
+               "with_wear(chain, wear)", "with_window(chain, window)", "with_reader(chain, reader)"],
+    "standings": ["begins(chain)", "steps(chain, standing)", "ends(chain, standing)"],
+    "prices": ["least_price(chain, kind)", "least_case(chain, kind)", "sure(chain)", "margin(chain)"],
+    "papers": ["heights(chain, kind, price)", "check_heights(chain, kind, price, thing)", "closed(chain, kind)",
+               "check_closed(chain, kind, thing)"],
 }
 
 # For each class its arguments, its methods, and its fields with what makes an object.
@@ -33,6 +45,9 @@ CLASSES = {
     "wears": {"Wear": ("(moves)", [], ["moves"], ((((0, 0, 0, 0), (1, 1, 0, 0)),),))},
     "windows": {"Window": ("(radius, table)", [], ["radius", "table"], (0, (0, 1)))},
     "readers": {"Reader": ("(width, marks)", ["mark(row)"], ["width", "marks"], (1, {(0,): "a"}))},
+    "chains": {"Chain": ("(book, rule, wear, window, reader)", [], ["book", "rule", "wear", "window", "reader"],
+                         (Book({"a": (0, 0)}, (0, 1), (1, 0)), all_texts(("a",)), flips(1, 1), same(),
+                          Reader(2, {(0, 0): "a"})))},
 }
 
 
