@@ -97,7 +97,7 @@ class Search:
         self._levels = {}
         self._queue = []
 
-    def lower(self, limit):
+    def limit_to(self, limit):
         """Let only things at costs below a lower limit be met from now on."""
         self._limit = limit
 
@@ -133,8 +133,8 @@ def cheapest_from(firsts, after, goal, limit):
     """Return the Search of all that is met from some first things, the cheapest first.
 
     firsts and after(thing) are lists of pairs (cost, thing); costs are integers from 0 on. Only
-    things at costs below the limit are met (None: there is no limit), and none that cost as much
-    as the goal.
+    things at costs below the limit are met (None: there is no limit); once the goal is met, only
+    things that cost less.
     """
     search = Search(limit)
     for cost, thing in firsts:
@@ -145,6 +145,6 @@ def cheapest_from(firsts, after, goal, limit):
         for cost, then in after(thing):
             search.meet(here + cost, then, thing)
             if then == goal and goal in search.costs:
-                search.lower(search.costs[goal])
+                search.limit_to(search.costs[goal])
         thing = search.take()
     return search

@@ -80,9 +80,7 @@ def check_heights(chain, kind, price, thing):
         return False
     course = Course(chain)
     for key in thing:
-        if not isinstance(key, tuple) or course.standing_of(key) is None:
-            return False
-        if not is_within(thing[key], 0, price - 1):
+        if course.standing_of(key) is None or not is_within(thing[key], 0, price - 1):
             return False
     return _holds(course, kind, thing, price)
 

@@ -222,8 +222,7 @@ class Course:
         """Return a text with the fewest signs that leads from a state of the rule to a good one."""
         text = ""
         while self._left[state] > 0:
-            ways = [(sign, after) for sign, after in self._printable[state]
-                    if sign != "stop" and self._left[after] < self._left[state]]
+            ways = [(sign, after) for sign, after in self._printable[state] if self._left[after] < self._left[state]]
             text += ways[0][0]
             state = ways[0][1]
         return text

@@ -263,3 +263,11 @@ class TestSize(Case):
         self.equal(size(sized(3, 2, 1, 25)), 20000)
         self.equal(size(sized(3, 3, 5, 8)), 20480)
         self.equal(size(sized(6, 3, 6, 40)), 4915200)
+
+    def test_no_chain_is_too_wide_to_be_read(self):
+        made = sized(6, 3, 6, 40)
+        row = label_of(made.book, "a" * 40)
+        self.equal(seen(made, row), text_read(made, row))
+        self.equal(outcome(made, "a" * 40, row), outcome_of(made, "a" * 40, row))
+        self.raises(NoText(), outcome, made, "a", row)
+        self.raises(BadRow("length"), seen, made, row[1:])

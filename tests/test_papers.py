@@ -238,7 +238,11 @@ class TestCheckHeights(Case):
             self.assertIs(check_heights(still, "none", 2, thing), is_paper(still, "none", 2, thing))
         misread = (0, (), (0, 0, 0), "b", 0, 0, True)
         self.assertIs(check_heights(still, "none", 2, {**paper, misread: 0}), False)
-        self.assertIs(check_heights(still, "wrong", 2, {**heights(still, "wrong", 2), misread: 0}), True)
+        paper = heights(still, "wrong", 2)
+        for known in (0, 1):
+            self.assertIs(check_heights(still, "wrong", 2, {**paper, misread: known}), True)
+        for known in (-1, 2, True, False, None, "0"):
+            self.assertIs(check_heights(still, "wrong", 2, {**paper, misread: known}), False)
 
     def test_unlike_last_signs_behind_a_misread_one(self):
         # Such standings go on alike, but each of them has a height of its own.

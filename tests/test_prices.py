@@ -16,13 +16,13 @@ from tests.helpers import Case, rows, things
 from tests.test_books import book
 from tests.test_chains import chain, ring, sized
 from tests.test_standings import no_text, trap
-from tests.told import (KINDS, STAY, cases_of, kinds_of, label_of, least_walked, lets, prices_of_rows, some_chains,
-                        text_read)
+from tests.told import (KINDS, STAY, cases_of, fewest_walked, kinds_of, label_of, least_walked, lets, prices_of_rows,
+                        some_chains, text_read)
 
 
 def wrong_kinds():
     """Return things that are no kinds."""
-    return [thing for thing in things() if not (type(thing) is str and thing in KINDS)] + ["right", "non", "None", "any"]
+    return [thing for thing in things() if not (type(thing) is str and thing in KINDS)] + ["right", "non", "None"]
 
 
 def short(made, low=0, high=2):
@@ -182,6 +182,35 @@ class TestLeastCase(Case):
             for kind in KINDS:
                 case = least_case(made, kind)
                 self.equal(None if case is None else (case[0], len(case[1])), wanted.get(kind))
+
+    def test_fewest_signs_by_begins_steps_and_ends(self):
+        # Among these chains are such where the fewest signs end a label early, and such where they do not.
+        chains = some_chains(90, 106) + some_chains(120, 202, (2,), states=9, places=2)[27::10]
+        for made in chains:
+            wanted = fewest_walked(made)
+            for kind in KINDS:
+                case = least_case(made, kind)
+                self.equal(None if case is None else (case[0], len(case[1])), wanted.get(kind))
+
+    def test_a_short_text_that_costs_early(self):
+        # A c is always misread, but no stop is read as one without a price; nor is an a, for the same price.
+        one = Book({"a": (0, 1, 0), "b": (1, 1, 0), "c": (1, 0, 1)}, (1, 1, 1), (0, 0, 1))
+        reader = Reader(3, {(1, 1, 1): "start", (0, 1, 0): "a", (1, 1, 0): "b", (1, 0, 1): "b", (0, 0, 0): "stop"})
+        # The texts ab and ccc.
+        rule = Rule(("a", "b", "c"), ((1, 5, 2), (5, 4, 5), (5, 5, 3), (5, 5, 4), (5, 5, 5), (5, 5, 5)), (4,))
+        made = Chain(one, rule, Wear(((*STAY, (1, 0, 3, 0)),)), same(), reader)
+        self.equal(least_case(made, "unlike"), (3, "ab", (1, 1, 1, 0, 0, 0, 1, 1, 0, 0, 0, 1)))
+
+    def test_the_rest_of_a_label_where_signs_lead_nowhere(self):
+        # Behind any two signs: any number of a, one b, and then two a or two b.
+        one = Book({"a": (0, 1), "b": (1, 0)}, (1, 1), (0, 0))
+        rule = Rule(("a", "b"), ((1, 1), (2, 2), (2, 3), (4, 5), (6, 7), (7, 6), (7, 7), (7, 7)), (6,))
+        made = Chain(one, rule, Wear(((*STAY, (1, 0, 1, 0)),)), same(), strict(one))
+        for kind in ("none", "unlike"):
+            case = least_case(made, kind)
+            self.fits(made, kind, case, 1)
+            self.equal(len(case[1]), 5)
+            self.assertIn(case[1][2:], ("baa", "bbb"))
 
     def test_the_rest_of_a_label_that_ends_early_is_as_short_as_can_be(self):
         one = Book({"a": (0, 1), "b": (1, 0)}, (1, 1), (0, 0))

@@ -13,8 +13,8 @@ from surelabels.windows import Window, middle, same
 from tests.helpers import Case, nested, rows, same as alike, things
 from tests.test_books import book
 from tests.test_chains import EVEN, chain, sized
-from tests.told import (STAY, begins_as_told, ends_as_told, hopeful, some_chains, state_behind, steps_as_told, swept_row,
-                        walked, worn_ways)
+from tests.told import (STAY, begins_as_told, ends_as_told, hopeful, some_chains, state_behind, steps_as_told,
+                        swept_row, walked, worn_ways)
 
 
 def trap(signs=("a", "b")):
@@ -303,6 +303,10 @@ class TestNoStanding(Case):
 
     def test_a_meant_from_which_nothing_good_comes(self):
         self.refused((1, (0, 1), (1, 0), "b", 1, 1, False))
+        for call in (steps, ends):
+            for state in (-1, -2, 2):
+                self.raises(NoStanding(), call, chain(), (0, (), (1, 1, 1), "start", state, 0, True))
+                self.raises(NoStanding(), call, chain(), (0, (), (1, 1, 1), "start", 0, state, True))
         self.equal(begins(chain(rule=no_text())), [])
         for call in (steps, ends):
             self.raises(NoStanding(), call, chain(rule=no_text()), (0, (), (1, 1, 1), "start", 0, 0, True))

@@ -173,59 +173,72 @@ def steps_as_told(chain, standing):
     return [(sign, least[sign, then], then) for sign, then in sorted(least)]
 
 
-def ends_as_told(chain, standing):
-    """Return the ends from a standing."""
+def signs_left(rule, state):
+    """Return how few signs lead from a state of a rule to a good one."""
+    many, reached = 0, {state}
+    while not reached & set(rule.good):
+        reached = {after for state in reached for after in rule.moves[state]}
+        many += 1
+    return many
+
+
+def all_ends(chain, standing):
+    """Return the dict from all that can end the reading to the pair of the least price and, for it, of fewest signs."""
     place, tail, begun, last, meant, told, _ = standing
     radius, good = chain.window.radius, chain.rule.good
     least = {}
-
-    def met(price, *whats):
-        for what in whats:
-            least[what] = min(price, least.get(what, price))
-
     for mark in chain.book.signs + ("stop",):
         if mark == "stop" and meant not in good:
             continue
         if mark != "stop" and state_behind(chain.rule, mark, meant) not in hopeful(chain.rule):
             continue
+        signs = 0 if mark == "stop" else 1 + signs_left(chain.rule, state_behind(chain.rule, mark, meant))
         for price, _, ends, swept, worn in blocks_behind(chain, place, tail, mark):
             found = mark_of_last(chain, begun, tail, worn)
             read = told_on(chain, standing, found)
-            if read is None:
-                if last != "start" and found == "stop":
-                    met(price, "wrong" if told in good else "none", "unlike")
-                else:
-                    met(price, "none")
-            elif mark == "stop":
-                if mark_of_last(chain, swept, ends, (0,) * radius) != "stop":
-                    met(price, "none")
-                elif read[1]:
-                    met(price, "right")
-                else:
-                    met(price, "wrong" if read[0] in good else "none", "unlike")
-    return sorted(least.items())
+            whats = ("none",)
+            if read is None and last != "start" and found == "stop":
+                whats = ("wrong" if told in good else "none", "unlike")
+            elif read is not None and mark != "stop":
+                whats = ()
+            elif read is not None and mark_of_last(chain, swept, ends, (0,) * radius) == "stop":
+                whats = ("right",) if read[1] else ("wrong" if read[0] in good else "none", "unlike")
+            for what in whats:
+                least[what] = min((price, signs), least.get(what, (price, signs)))
+    return least
+
+
+def ends_as_told(chain, standing):
+    """Return the ends from a standing."""
+    return [(what, price) for what, (price, _) in sorted(all_ends(chain, standing).items())]
 
 
 def walked(chain):
-    """Return the dict from all standings that labels lead to to the least sums of prices to them."""
-    far = {}
-    for price, standing in begins_as_told(chain):
-        far[standing] = price
+    """Return the dict from all standings that labels lead to to pairs: the least price, and the fewest signs for it."""
+    far = {standing: (price, 0) for price, standing in begins_as_told(chain)}
     waiting = sorted(far, key=far.get)
     while waiting:
         here = waiting.pop(0)
         for _, price, then in steps_as_told(chain, here):
-            if then not in far or far[here] + price < far[then]:
-                far[then] = far[here] + price
+            cost = (far[here][0] + price, far[here][1] + 1)
+            if then not in far or cost < far[then]:
+                far[then] = cost
                 waiting.append(then)
     return far
 
 
+def fewest_walked(chain):
+    """Return the dict from kinds to the least price by begins, steps and ends, and the fewest signs for it."""
+    least = {}
+    for standing, (far, signs) in walked(chain).items():
+        for what, (price, more) in all_ends(chain, standing).items():
+            least[what] = min((far + price, signs + more), least.get(what, (far + price, signs + more)))
+    return {kind: least[kind] for kind in KINDS if kind in least}
+
+
 def least_walked(chain):
     """Return the dict from kinds to the least price by begins, steps and ends."""
-    far = walked(chain)
-    sums = [(kind, far[here] + price) for here in far for kind, price in ends_as_told(chain, here) if kind in KINDS]
-    return {kind: min(price for what, price in sums if what == kind) for kind in {kind for kind, _ in sums}}
+    return {kind: price for kind, (price, _) in fewest_walked(chain).items()}
 
 
 def some_wear(chance, most=3):
