@@ -2,9 +2,19 @@
 
 from heapq import heappop, heappush
 
-from surelabels.errors import BadKind, BadNumber, BadText
+from surelabels.errors import BadKind, BadList, BadNumber, BadText
 
+DIGITS = "0123456789"
+LETTERS = "abcdefghijklmnopqrstuvwxyz"
 SIGNS = "0123456789abcdefghijklmnopqrstuvwxyz"
+
+# What a search of texts is for.
+GOAL = ()
+
+# A cost is a price times this number, with the number of signs behind it: so the cheapest way is,
+# among those with one price, the one with the fewest signs. No search goes through as many standings
+# (at most 22 times 20000 of them), and so a cheapest way never has as many signs.
+COST = 1000000
 
 
 def is_whole(thing):
@@ -41,6 +51,14 @@ def items_of(thing):
     return None
 
 
+def list_of(thing, low, high):
+    """Return the items of a tuple or a list of low to high things as a tuple, or raise BadList."""
+    items = items_of(thing)
+    if items is None or not low <= len(items) <= high:
+        raise BadList(-1)
+    return items
+
+
 def is_rising(things):
     """Tell whether each thing is greater than the one ahead of it."""
     return all([one < other for one, other in zip(things, things[1:])])
@@ -49,6 +67,13 @@ def is_rising(things):
 def is_sign(thing):
     """Tell whether a thing is a string of one digit or letter a to z."""
     return isinstance(thing, str) and len(thing) == 1 and thing in SIGNS
+
+
+def number_of(word):
+    """Return the number that a word is, in at most 40 decimal digits and without leading zeros, None if it is none."""
+    if not 1 <= len(word) <= 40 or not all([character in DIGITS for character in word]):
+        return None
+    return None if len(word) > 1 and word[0] == "0" else int(word)
 
 
 def check_text(text, signs):
@@ -127,6 +152,15 @@ class Search:
                 heappop(self._queue)
                 del self._levels[cost]
         return None
+
+    def way_to(self, thing):
+        """List the things through which a thing was met, from the first one on, without the thing itself."""
+        way = []
+        thing = self.ahead[thing]
+        while thing is not None:
+            way.append(thing)
+            thing = self.ahead[thing]
+        return way[::-1]
 
 
 def cheapest_from(firsts, after, goal, limit):

@@ -1,8 +1,8 @@
 """What shows that no case is cheaper than a price, or that there is none (document, points 10.3 and 10.4)."""
 
 from surelabels.chains import KINDS, check_size
-from surelabels.common import check_from, check_kind, is_within, items_of
-from surelabels.prices import COST, GOAL, WIDEST, is_halfway, search_cases
+from surelabels.common import COST, GOAL, check_from, check_kind, is_within, items_of
+from surelabels.prices import WIDEST, is_halfway, search_cases
 from surelabels.standings import Course
 
 

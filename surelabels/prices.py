@@ -1,19 +1,11 @@
 """The least prices of cases, over all texts and all worn rows (document, points 10.1, 10.2 and 10.5)."""
 
 from surelabels.chains import KINDS, check_size
-from surelabels.common import check_kind, cheapest_from
+from surelabels.common import COST, GOAL, check_kind, cheapest_from
 from surelabels.standings import Course
 
 # The most that size may be.
 WIDEST = 20000
-
-# A cost is a price times this number, with the number of signs behind it: so the cheapest way is,
-# among those with one price, the one with the fewest signs. There are fewer standings than this
-# (at most 22 times WIDEST), and so a cheapest way never has as many signs.
-COST = 1000000
-
-# What a search is for: a case.
-GOAL = ()
 
 
 def _next_ways(course, kind, here):
@@ -52,16 +44,6 @@ def least_price(chain, kind):
     return _least_price(Course(chain), kind)
 
 
-def _way_to(search, thing):
-    """List the things through which a search met a thing, from the first one on, without the thing itself."""
-    way = []
-    thing = search.ahead[thing]
-    while thing is not None:
-        way.append(thing)
-        thing = search.ahead[thing]
-    return way[::-1]
-
-
 def _piece_between(course, halfway, standing):
     """Return the worn cells of the block of a mark by which a halfway leads to a standing."""
     spot, printed, _, _, _ = halfway
@@ -89,7 +71,7 @@ def least_case(chain, kind):
     search = search_cases(course, kind, None)
     if GOAL not in search.costs:
         return None
-    way = _way_to(search, GOAL)
+    way = search.way_to(GOAL)
     worn = []
     for halfway, standing in zip(way[::2], way[1::2]):
         worn.extend(_piece_between(course, halfway, standing))

@@ -7,7 +7,7 @@ from surelabels.ruleforms import signs_left
 from surelabels.windows import swept_inside
 
 
-def _worn_pieces(wear, place, cells):
+def worn_pieces(wear, place, cells):
     """List the triples (price, piece, next place): how some cells can be worn from a standing place of the wear.
 
     Each piece of worn cells stands there once for each next place, with its least price.
@@ -95,7 +95,7 @@ class Course:
         """List the triples (price, piece, spot) of the ways to wear the first cells of a mark's row."""
         key = (place, printed)
         if key not in self._heads:
-            self._heads[key] = _worn_pieces(self._chain.wear, place, self._rows[printed][:self._radius])
+            self._heads[key] = worn_pieces(self._chain.wear, place, self._rows[printed][:self._radius])
         return [(price, piece, (after, tail[self._radius:] + piece)) for price, piece, after in self._heads[key]]
 
     def _reads_from(self, front, printed):
@@ -119,7 +119,7 @@ class Course:
         if key not in self._fronts:
             place, tail = spot
             least = {}
-            for price, piece, after in _worn_pieces(self._chain.wear, place, self._rows[printed][self._radius:]):
+            for price, piece, after in worn_pieces(self._chain.wear, place, self._rows[printed][self._radius:]):
                 cells = tail + piece
                 front = (after, cells[len(piece):], swept_inside(self._chain.window, cells))
                 if front not in least or price < least[front][0]:

@@ -33,6 +33,10 @@ FUNCTIONS = {
     "prices": ["least_price(chain, kind)", "least_case(chain, kind)", "sure(chain)", "margin(chain)"],
     "papers": ["heights(chain, kind, price)", "check_heights(chain, kind, price, thing)", "closed(chain, kind)",
                "check_closed(chain, kind, thing)"],
+    "counting": ["numbers(chain, length, most)"],
+    "mending": ["prices_of(chain, worn, most)", "mended(chain, worn)", "is_one(chain, worn)"],
+    "meetings": ["least_meeting(chain)", "meeting(chain)", "meeting_heights(chain, total)",
+                 "check_meeting_heights(chain, total, thing)"],
 }
 
 # For each class its arguments, its methods, and its fields with what makes an object.

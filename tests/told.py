@@ -261,6 +261,19 @@ def some_wear(chance, most=3):
     return Wear(moves)
 
 
+def some_plain_wear(chance, most=3):
+    """Return a wear of chance that has at most one move for each standing place, cell and worn cell."""
+    places = chance.randint(1, most)
+    moves = []
+    for _ in range(places):
+        row = [(cell, cell, 0, chance.randrange(places)) for cell in (0, 1)]
+        row += [(cell, 1 - cell, chance.randint(0, 3), chance.randrange(places)) for cell in (0, 1)
+                if chance.random() < 0.7]
+        chance.shuffle(row)
+        moves.append(row)
+    return Wear(moves)
+
+
 def some_book(chance, width, most=3):
     """Return a book of chance of a width."""
     count = chance.randint(1, min(most, 2 ** width - 2))
