@@ -37,6 +37,13 @@ FUNCTIONS = {
     "mending": ["prices_of(chain, worn, most)", "mended(chain, worn)", "is_one(chain, worn)"],
     "meetings": ["least_meeting(chain)", "meeting(chain)", "meeting_heights(chain, total)",
                  "check_meeting_heights(chain, total, thing)"],
+    "design": ["strongest(chains, kind)", "cheapest_windows(chain, offers, kind, price)",
+               "spread_rows(rows, count, wear)", "gap(wear, one, other)"],
+    "scans": ["fitting(chain, scans, most)", "sure_signs(chain, scans, most)", "least_scans(chain, scans, text)",
+              "voted(reader, rows)"],
+    "texts": ["show_row(row)", "read_row(text)", "show_book(book)", "read_book(text)", "show_rule(rule)",
+              "read_rule(text)", "show_wear(wear)", "read_wear(text)", "show_window(window)", "read_window(text)"],
+    "desk": ["tell_all(desk, lines)"],
 }
 
 # For each class its arguments, its methods, and its fields with what makes an object.
@@ -52,6 +59,7 @@ CLASSES = {
     "chains": {"Chain": ("(book, rule, wear, window, reader)", [], ["book", "rule", "wear", "window", "reader"],
                          (Book({"a": (0, 0)}, (0, 1), (1, 0)), all_texts(("a",)), flips(1, 1), same(),
                           Reader(2, {(0, 0): "a"})))},
+    "desk": {"Desk": ("()", ["tell(line)", "many()", "thing(name)", "trial(lines)"], [], ())},
 }
 
 
@@ -91,6 +99,7 @@ class TestInterface(unittest.TestCase):
                         self.assertIn(line.split("(")[0], vars(kind))
                         call = getattr(thing, line.split("(")[0])
                         self.assertEqual(call.__name__ + arguments(call), line)
-                    self.assertIn("__eq__", vars(kind))
+                    # Desks are not compared.
+                    self.assertTrue("__eq__" in vars(kind) or name == "Desk")
                     for field in fields:
                         self.assertTrue(hasattr(thing, field), field)

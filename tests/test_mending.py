@@ -66,8 +66,8 @@ def branching(many):
 def wrong_rows(made):
     """Return what is no row that a label can have."""
     width = made.book.width
-    lengths_of_none = (0, 1, width, 2 * width - 1, 2 * width + 1, 3 * width + 1)
-    return not_rows() + [(0,) * length for length in lengths_of_none] + [(1,) * length for length in lengths_of_none]
+    no_lengths = (0, 1, width, 2 * width - 1, 2 * width + 1, 3 * width + 1)
+    return not_rows() + [(cell,) * length for length in no_lengths for cell in (0, 1)]
 
 
 class TestPricesOf(Case):
@@ -77,7 +77,8 @@ class TestPricesOf(Case):
         self.equal(prices_of(made, (1, 1, 1, 0, 0, 1), 0), [(0, "")])
         self.equal(prices_of(made, (1, 1, 1, 1, 0, 1, 0, 0, 1), 0), [(0, "b")])
         self.equal(prices_of(made, (1, 1, 1, 0, 1, 1, 0, 0, 1), 9), [(2, "b")])
-        self.equal(prices_of(chain=chain(rule=all_texts(("a", "b"))), most=3, worn=(1, 1, 1, 0, 1, 1, 1, 0, 1, 0, 0, 1)),
+        free = chain(rule=all_texts(("a", "b")))
+        self.equal(prices_of(most=3, worn=(1, 1, 1, 0, 1, 1, 1, 0, 1, 0, 0, 1), chain=free),
                    [(0, "ab"), (2, "aa"), (2, "bb")])
 
     def test_against_trying_all_texts(self):
