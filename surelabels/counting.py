@@ -21,7 +21,7 @@ def _add(counts, key, more, price, many):
     counts[key] = more
 
 
-class _Tally:
+class Tally:
     """The worn labels of a chain with a plain wear, counted by their price block by block.
 
     With the window's radius r, a *front* is what counts behind a block of how it was worn:
@@ -181,7 +181,7 @@ def numbers(chain, length, most):
     check_within(length, 0, 40, "length")
     check_within(most, 0, 20, "most")
     check_size(chain, WIDEST)
-    tally = _Tally(chain, most)
+    tally = Tally(chain, most)
     counts = tally.begun()
     for _ in range(length):
         counts = tally.longer(counts, chain.book.signs)

@@ -26,7 +26,7 @@ def _hopeful_pairs(rule):
     return met_from(ends, lambda pair: [(one, other) for one in ahead[pair[0]] for other in ahead[pair[1]]])
 
 
-class _Doubles:
+class Doubles:
     """The double standings of a chain, and what each leads to.
 
     Tables of what was asked for are kept, as it is asked for again and again.
@@ -122,7 +122,7 @@ def _search_meetings(doubles, limit):
 def least_meeting(chain):
     """Return the least sum at which two texts meet, over all texts and all worn rows, None if none do."""
     _check_width(chain)
-    search = _search_meetings(_Doubles(chain), None)
+    search = _search_meetings(Doubles(chain), None)
     return search.costs[GOAL] // COST if GOAL in search.costs else None
 
 
@@ -143,7 +143,7 @@ def _ways_to(doubles, search):
 def meeting(chain):
     """Return (sum, one, other, worn) of two texts that meet at the least sum, with the fewest signs, or None."""
     _check_width(chain)
-    doubles = _Doubles(chain)
+    doubles = Doubles(chain)
     search = _search_meetings(doubles, None)
     if GOAL not in search.costs:
         return None
@@ -158,7 +158,7 @@ def meeting_heights(chain, total):
     """Return the heights that show that no two texts meet for less than a total, None if some do."""
     check_from(total, 0, "total")
     _check_width(chain)
-    search = _search_meetings(_Doubles(chain), total * COST)
+    search = _search_meetings(Doubles(chain), total * COST)
     if GOAL in search.costs:
         return None
     found = {}
@@ -177,7 +177,7 @@ def check_meeting_heights(chain, total, thing):
     check_from(total, 0, "total")
     if not isinstance(thing, dict):
         return False
-    doubles = _Doubles(chain)
+    doubles = Doubles(chain)
     for standing in thing:
         if not doubles.is_standing(standing) or not is_within(thing[standing], 0, total - 1):
             return False

@@ -115,6 +115,12 @@ class TestLanguage(unittest.TestCase):
                 self.assertFalse(bound != "_" and hasattr(builtins, bound), f"{name}: {bound}")
                 self.assertRegex(bound, r"\A_?[A-Za-z][A-Za-z0-9_]*\Z|\A_\Z", name)
 
+    def test_names_of_classes_begin_with_a_letter(self):
+        classes = self.nodes(ast.ClassDef)
+        self.assertIn(("books.py", "Book"), [(name, node.name) for name, node in classes])
+        for name, node in classes:
+            self.assertRegex(node.name, r"\A[A-Za-z][A-Za-z0-9_]*\Z", f"{name}:{node.lineno}")
+
     def test_no_local_name_is_an_import_or_a_class(self):
         for name, tree in self.trees.items():
             taken = {alias.name for node in tree.body if isinstance(node, ast.ImportFrom) for alias in node.names}
