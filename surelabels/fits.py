@@ -1,6 +1,7 @@
 """The texts whose labels fit worn rows of one length (document, points 12.1, 12.2 and 14.1)."""
 
 from surelabels.cells import blocks, is_row
+from surelabels.tables import Tables
 
 # How many texts are told at most.
 MOST_TEXTS = 500
@@ -31,7 +32,16 @@ class Scan:
         """Return how many signs the texts have."""
         return len(self._blocks) - 2
 
-    def _worn_from(self, place, mark, index):
+    def many_places(self):
+        """Return how many standing places the wear has."""
+        return len(self._wear.moves)
+
+    def dearest(self):
+        """Return a price that the least price of no label is above."""
+        dearest = max([price for moves in self._wear.moves for _, _, price, _ in moves])
+        return dearest * self._book.width * len(self._blocks)
+
+    def worn_from(self, place, mark, index):
         """Return the dict of standing places and their prices behind a mark's block of an index, from a place on."""
         key = (place, mark, self._blocks[index])
         if key not in self._ways:
@@ -47,7 +57,7 @@ class Scan:
         if key not in self._fronts:
             prices = {}
             for place, price in front:
-                ways = self._worn_from(place, mark, index)
+                ways = self.worn_from(place, mark, index)
                 for after in ways:
                     prices[after] = min(price + ways[after], prices.get(after, price + ways[after]))
             least = min(prices.values(), default=None)
@@ -57,19 +67,15 @@ class Scan:
 
     def _all_left(self, rule):
         """Return, for each number of signs and each state, the least prices of the rest by standing places."""
-        ends = self._behind_stop()
+        ends = self.behind_stop()
         left = [[ends if state in rule.good else {} for state in range(len(rule.moves))]]
         for index in reversed(range(1, len(self._blocks) - 1)):
             left.append([self._behind_signs(rule.signs, row, index, left[-1]) for row in rule.moves])
         return left[::-1]
 
-    def _places(self):
-        """Return the standing places of the wear."""
-        return list(range(len(self._wear.moves)))
-
-    def _behind_stop(self):
+    def behind_stop(self):
         """Return the least prices of the stop by standing places."""
-        prices = {place: self._worn_from(place, "stop", -1) for place in self._places()}
+        prices = {place: self.worn_from(place, "stop", -1) for place in range(self.many_places())}
         return {place: min(prices[place].values()) for place in prices if prices[place]}
 
     def _behind_signs(self, signs, row, index, left):
@@ -80,8 +86,8 @@ class Scan:
         least = {}
         for sign, state in zip(signs, row):
             if left[state]:
-                for place in self._places():
-                    price = self._least_then(self._worn_from(place, sign, index), left[state])
+                for place in range(self.many_places()):
+                    price = self._least_then(self.worn_from(place, sign, index), left[state])
                     if price is not None and (place not in least or price < least[place]):
                         least[place] = price
         return least
@@ -113,7 +119,7 @@ class Fits:
             return None
         return (sum([price for price, _ in ways]), tuple([front for _, front in ways]))
 
-    def _behind(self, node, many):
+    def left(self, node, many):
         """Return a price that the rest behind a node costs at least, of one scan just the least; None for no rest."""
         fronts, state = node
         prices = [scan.left(front, state, many) for scan, front in zip(self._scans, fronts)]
@@ -129,7 +135,7 @@ class Fits:
         first = self._first()
         if first is None:
             return None
-        left = self._behind(first[1], 0)
+        left = self.left(first[1], 0)
         return None if left is None else first[0] + left
 
     def _onward(self, node, many):
@@ -139,75 +145,45 @@ class Fits:
                 for sign, after in zip(self._rule.signs, self._rule.moves[state])]
         return [(sign, way[0], (way[1], after)) for sign, after, way in ways if way is not None]
 
-    def _fair_ways(self, node, many, most):
-        """List the triples onward from a node behind which the rest may cost at most `most`."""
-        fair = []
-        for sign, price, then in self._onward(node, many):
-            left = self._behind(then, many + 1)
-            if left is not None and price + left <= most:
-                fair.append((sign, price, then))
-        return fair
+    def _longer(self, found, many, rests, most):
+        """Return the beginnings with one more sign that a rest can keep at a price of at most `most`.
 
-    def _all_ways(self, cost, node, most, limit):
-        """List, for each number of signs, the dict from nodes to triples onward; None if there are too many texts.
-
-        The last dict, behind all signs, has the prices of the stop instead. No triple is left out
-        that a text of a price of at most `most` needs.
+        Beginnings are a dict from nodes to the lists of the pairs (price, text) that lead to them.
         """
-        costs = {node: cost}
-        levels = []
+        longer = {}
+        for node in found:
+            for sign, price, then in self._onward(node, many):
+                left = rests.left(then, many + 1)
+                if left is not None:
+                    enough = most - price - left
+                    kept = [(cost + price, text + sign) for cost, text in found[node] if cost <= enough]
+                    if kept:
+                        longer.setdefault(then, []).extend(kept)
+        return longer
+
+    def _told(self, rests, most, limit):
+        """List, ascending, the pairs (price, text) of a price of at most `most`; None if a limit is passed.
+
+        It is passed where more beginnings of one length are kept, by what rests tells of the prices
+        of rests: if these are the least ones just so, each beginning becomes at least one text.
+        """
+        cost, node = self._first()
+        found = {node: [(cost, "")]}
         for many in range(self._many):
-            level = {here: self._fair_ways(here, many, most - costs[here]) for here in costs}
-            levels.append(level)
-            behind = {}
-            for here in level:
-                for _, price, then in level[here]:
-                    behind[then] = min(costs[here] + price, behind.get(then, costs[here] + price))
-            # The least price of the rest is known for one scan, so each node is one of another text.
-            if len(self._scans) == 1 and len(behind) > limit:
+            found = self._longer(found, many, rests, most)
+            if sum([len(found[here]) for here in found]) > limit:
                 return None
-            costs = behind
-        return levels + [{here: self._behind(here, self._many) for here in costs}]
+        return sorted([(price + self.left(here, self._many), text) for here in found for price, text in found[here]])
 
     def texts(self, most, limit):
         """List, ascending, the pairs (price, text) of a price of at most `most`; None for more than a limit."""
         bound = self.bound()
         if bound is None or bound > most:
             return []
-        cost, node = self._first()
-        levels = self._all_ways(cost, node, most, limit)
-        return None if levels is None else _told(levels, cost, node, most, limit)
-
-
-def _rests(levels):
-    """Return, for each number of signs, the dict from nodes to the least prices of the rest."""
-    rests = [levels[-1]]
-    for level in reversed(levels[:-1]):
-        behind = rests[-1]
-        prices = {node: [price + behind[then] for _, price, then in level[node] if then in behind] for node in level}
-        rests.append({node: min(prices[node]) for node in prices if prices[node]})
-    return rests[::-1]
-
-
-def _longer(found, level, rests, most):
-    """Return the dict from nodes to pairs (price, text), with one more sign, that a rest keeps at most at `most`."""
-    longer = {}
-    for node in found:
-        for sign, price, then in level[node]:
-            if then in rests:
-                enough = most - price - rests[then]
-                kept = [(cost + price, text + sign) for cost, text in found[node] if cost <= enough]
-                longer.setdefault(then, []).extend(kept)
-    return longer
-
-
-def _told(levels, cost, node, most, limit):
-    """List the pairs (price, text) that lead from a node through the levels, None if there are more than a limit."""
-    rests = _rests(levels)
-    found = {node: [(cost, "")]}
-    for level, behind in zip(levels[:-1], rests[1:]):
-        found = _longer(found, level, behind, most)
-        # Each beginning that is kept becomes at least one text.
-        if sum([len(found[here]) for here in found]) > limit:
-            return None
-    return sorted([(price + levels[-1][here], text) for here in found for price, text in found[here]])
+        if len(self._scans) == 1:
+            return self._told(self, most, limit)
+        # If the scans hardly differ, what each one tells by itself keeps few beginnings, and tables take longer.
+        found = self._told(self, most, MOST_TEXTS)
+        if found is None:
+            return self._told(Tables(self._rule, self._scans, most), most, limit)
+        return found if len(found) <= limit else None

@@ -1,6 +1,8 @@
 """What the tests share: wrong things of all kinds, checks of errors, and texts in order."""
 
+import contextlib
 import itertools
+import signal
 import unittest
 
 from surelabels import errors
@@ -78,6 +80,20 @@ def texts(signs, longest):
 def rows(length):
     """Return all rows of this length, in order."""
     return list(itertools.product((0, 1), repeat=length))
+
+
+@contextlib.contextmanager
+def within(seconds):
+    """Fail if the rows below take longer than so many seconds; they are broken off then."""
+    def broken_off(*_):
+        raise AssertionError(f"no answer within {seconds} seconds")
+    before = signal.signal(signal.SIGALRM, broken_off)
+    signal.setitimer(signal.ITIMER_REAL, seconds)
+    try:
+        yield
+    finally:
+        signal.setitimer(signal.ITIMER_REAL, 0)
+        signal.signal(signal.SIGALRM, before)
 
 
 class Case(unittest.TestCase):
